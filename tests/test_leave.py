@@ -176,6 +176,11 @@ class LeaveOrder(LineCase):
         self.check((("lorry", 1, 1), [2]), weighed([5000], 5000), (("arrive", 2, 0, 0), [0, 5000]), EMPTY,
                    weighed([4], 0), (("leave", 0, 0), [-12]), EMPTY, weighed([40000], 40000), (("leave", 0, 0), [-28]))
 
+    def test_too_heavy_is_told_before_no_room(self):
+        self.check(weighed([9000, 9000], 18000), (("arrive", 0, 0, 0), [0, 18000]), EMPTY,
+                   weighed([9001], 9000), (("leave", 0, 0), [-40]), EMPTY,
+                   weighed([9000], 9000), (("leave", 0, 0), [-75]))
+
     def test_who_fetches(self):
         self.check(
             weighed([5000], 5000), (("arrive", 0, 0, 1), [0, 5000]), EMPTY,

@@ -145,6 +145,18 @@ class Quick(LineCase):
     def test_a_tare_that_is_no_longer_good_is_told_before_too_heavy(self):
         self.check((("days", 8), [8]), weighed([9001], 9000), (("quick", 0, 0, 1, 0), [-61]))
 
+    def test_a_tare_that_is_no_longer_good_is_told_before_nothing_net_and_stock(self):
+        self.check((("days", 8), [8]), weighed([3000], 3000), (("quick", 0, 0, 0, 0), [-61]), EMPTY,
+                   weighed([9000, 9010], 18010), (("quick", 0, 0, 0, 0), [-61]), (("quick", 0, 0, 1, 0), [-61]))
+
+    def test_too_heavy_is_told_before_not_so_much_and_nothing_net(self):
+        self.check(weighed([9001, 5000], 14000), (("quick", 0, 0, 1, 0), [-40]), EMPTY,
+                   weighed([9000, 5000], 14000), (("quick", 0, 0, 1, 0), [-33]))
+        # Lorry 2 has its tare on two axles; on one axle the same weight is too heavy and nothing's net.
+        self.check((("lorry", 2500, 9000), [2]), weighed([2500, 2500], 5000), (("arrive", 2, 0, 0), [1, 5000]), EMPTY,
+                   weighed([2000, 2000], 4000), (("leave", 1, 0), [1000, 1000, 1250]), EMPTY,
+                   weighed([4000], 4000), (("quick", 2, 0, 1, 0), [-40]), (("quick", 2, 0, 0, 0), [-44]))
+
 
 class Cancel(LineCase):
 
