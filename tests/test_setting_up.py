@@ -1,6 +1,6 @@
 """Point 1: begin, kind, lorry."""
 
-from tests.lines import BIG, LineCase, run
+from tests.lines import BIG, NAMES, TELLING, LineCase, run, trip
 
 
 class Begin(LineCase):
@@ -59,6 +59,36 @@ class Begin(LineCase):
             (("cancel", 0), [5000]),
         )
 
+    # All that points 6 and 7 tell of a yard with one kind, one lorry and one ticket.
+    looks = (("tare", 0), ("odd", 0), ("excess", 0), ("fits", 0), ("dry", 0, 1000, 20), ("yard",), ("look", 0),
+             ("stock", 0), ("enough", 0, 1000), ("totals", 0), ("trips", 0), ("money",), ("heaviest",), ("sums",),
+             ("state",))
+
+    def used(self):
+        calls = [("begin", 10, 3000, 3, 7), ("kind", 1250, 15, 50000), ("lorry", 9000, 40000), ("drift", 0, 300),
+                 ("zero",), ("days", 3)] + trip(0, 0, 0, 0, 5000, 4000) + trip(1, 0, 0, 0, 5000, 3000)
+        return calls + [("on", [6000]), ("arrive", 0, 0, 0)]
+
+    def test_a_second_begin_makes_all_that_is_told_new(self):
+        self.assertEqual(list(TELLING), [look[0] for look in self.looks])
+        got = run(self.used() + list(self.looks))[-len(self.looks):]
+        self.assertEqual([[3000, 0, 1], [1, -1000], [1, 0, 0], [34000], [941, 1176], [1, 2],
+                          [1, 0, 0, 0, 5000, 4000, 1000, 1000, 1250], [3000, 47000], [1], [0, 3000, 0, 2, 0],
+                          [2, 0, 1], [0, 3750, 0], [1, 2000], [0, 3000, 2, 0], [0, 3, 1, 1, 3, 1, 6000, 300]], got)
+        got = run(self.used() + [("begin", 20, 2000, 1, 0)] + list(self.looks))[-len(self.looks):]
+        self.assertEqual([[-2], [-2], [-2], [-2], [-2], [0], [-2], [-2], [-2], [-2], [-2], [0, 0, 0], [-6],
+                          [0, 0, 0, 0], [0, 0, 0, 0, 0, 0, 0, 0]], got)
+        anew = [("begin", 20, 2000, 1, 0), ("kind", 100, 0, 500), ("lorry", 800, 900)]
+        got = run(self.used() + anew + list(self.looks))[-len(self.looks):]
+        self.assertEqual([[-6], [-6], [-6], [-6], [800, 80], [0], [-2], [0, 500], [0], [0, 0, 0, 0, 0], [0],
+                          [0, 0, 0], [-6], [0, 0, 0, 0], [0, 0, 1, 1, 0, 0, 0, 0]], got)
+
+    def test_a_refused_begin_leaves_all_that_is_told(self):
+        looks = list(self.looks)
+        kept = run(self.used() + looks)[-len(looks):]
+        for refused in (("begin", 0, 3000, 3, 7), ("begin", 10, 3000, 9, 7), ("begin", 10, 3000, 3, 366)):
+            self.assertEqual(kept, run(self.used() + [refused] + looks)[-len(looks):])
+
     def test_a_refused_begin_leaves_everything(self):
         self.check(
             (("begin", 10, 3000, 3, 7), [0]),
@@ -81,7 +111,13 @@ class BeforeBegin(LineCase):
 
     others = (("kind", 1000, 15, 50000), ("lorry", 9000, 40000), ("drift", 1, 1), ("on", [5, 6]), ("on", []),
               ("on", [65535] * 40), ("off",), ("show",), ("zero",), ("test", 10), ("allowed", 10),
-              ("arrive", 0, 0, 0), ("leave", 0, 0), ("quick", 0, 0, 0, 0), ("cancel", 0), ("days", 1))
+              ("arrive", 0, 0, 0), ("leave", 0, 0), ("quick", 0, 0, 0, 0), ("cancel", 0), ("days", 1),
+              ("tare", 0), ("odd", 0), ("excess", 0), ("fits", 0), ("dry", 0, 100, 10), ("yard",), ("look", 0),
+              ("stock", 0), ("enough", 0, 0), ("totals", 0), ("trips", 0), ("money",), ("heaviest",), ("sums",),
+              ("state",))
+
+    def test_these_are_all_others(self):
+        self.assertEqual(set(NAMES) - {"begin"}, {call[0] for call in self.others})
 
     def test_every_other_call_alone(self):
         for call in self.others:
@@ -90,7 +126,9 @@ class BeforeBegin(LineCase):
     def test_wrong_arguments_are_not_looked_at(self):
         for call in (("kind", 0, BIG, BIG), ("lorry", 0, 0), ("drift", -2147483648, 2147483647), ("test", 0),
                      ("arrive", BIG, BIG, BIG), ("leave", BIG, BIG), ("quick", BIG, BIG, BIG, BIG),
-                     ("cancel", BIG), ("days", 0)):
+                     ("cancel", BIG), ("days", 0), ("tare", BIG), ("odd", BIG), ("excess", BIG), ("fits", BIG),
+                     ("dry", BIG, BIG, BIG), ("look", BIG), ("stock", BIG), ("enough", BIG, BIG), ("totals", BIG),
+                     ("trips", BIG)):
             self.assertEqual([[-11]], run([call]), call)
 
     def test_a_refused_begin_does_not_count(self):

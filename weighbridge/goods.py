@@ -4,6 +4,8 @@ from weighbridge.refusals import FINE, NO_ROOM, NOT_SO_MUCH
 from weighbridge.tickets import BRINGS
 
 MOST_KINDS = 6
+# How wet goods can be at all, in hundredths.
+MOST_MOIST = 100
 
 
 class Goods:
@@ -24,10 +26,13 @@ class Goods:
         # The price is of a thousand; half a thousand more rounds to the nearest, half-way up.
         return (paid * self.price + 500) // 1000
 
+    def room_left(self):
+        return self.most - self.stock
+
     def stock_refusal(self, way, net):
         """Why so much can't be brought or fetched."""
         if way == BRINGS:
-            return NO_ROOM if self.stock + net > self.most else FINE
+            return NO_ROOM if net > self.room_left() else FINE
         return NOT_SO_MUCH if self.stock < net else FINE
 
     def move(self, way, net):

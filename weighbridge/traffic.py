@@ -1,11 +1,10 @@
 """The calls of lorries that come and go (points 3 to 5)."""
 
+from weighbridge.goods import MOST_MOIST
 from weighbridge.refusals import (
     ALREADY, FINE, FULL, NO_GOOD_TARE, NONE_SUCH, NOTHING_NET, OUT_OF_RANGE, TOO_HEAVY,
 )
 from weighbridge.tickets import CALLED_OFF, DONE, FETCHES, ON_YARD, Ticket
-
-MOST_MOIST = 100
 
 
 def coming_refusal(yard, lorry, kind, way, moist):

@@ -24,9 +24,13 @@ class Yard:
     def has_ticket(self, number):
         return number < len(self.tickets)
 
+    def tickets_in(self, state):
+        """The numbers of the tickets that are in such a state."""
+        return [number for number, ticket in enumerate(self.tickets) if ticket.state == state]
+
     def lorries_there(self):
         """The numbers of the lorries that are on the yard."""
-        return [ticket.lorry for ticket in self.tickets if ticket.state == ON_YARD]
+        return [self.tickets[number].lorry for number in self.tickets_in(ON_YARD)]
 
     def is_full(self):
         return len(self.lorries_there()) >= self.room
