@@ -21,6 +21,7 @@ METHODS = ("append clear copy count endswith extend find get index insert isalnu
            "rsplit rstrip setdefault split splitlines startswith strip update upper values zfill bit_length").split()
 WORDS = ("type typing typing_extensions enum Enum IntEnum StrEnum Flag IntFlag Generic Protocol ABC ABCMeta namedtuple "
          "NamedTuple TypedDict TYPE_CHECKING abstractmethod").split()
+PLAIN_TRUTHS = [ast.dump(ast.Constant(value)) for value in (None, True, False)]
 UNUSED_NAMES = "register mro elements open input version_info with_traceback add_note format format_map".split()
 
 
@@ -120,6 +121,26 @@ class Form(unittest.TestCase):
     def test_no_loop_has_an_else(self):
         for name, node in nodes(ast.For, ast.While):
             self.assertEqual([], node.orelse, f"{name}:{node.lineno}")
+
+    def test_is_stands_beside_none_alone(self):
+        for name, node in nodes(ast.Compare):
+            for op, value in zip(node.ops, node.comparators):
+                if isinstance(op, (ast.Is, ast.IsNot)):
+                    self.assertIn(ast.dump(value), PLAIN_TRUTHS, f"{name}:{node.lineno}")
+
+    def test_a_comprehension_has_one_for_and_at_most_one_if(self):
+        for name, node in nodes(ast.ListComp):
+            self.assertEqual(1, len(node.generators), f"{name}:{node.lineno}")
+            self.assertLessEqual(len(node.generators[0].ifs), 1, f"{name}:{node.lineno}")
+
+    def test_what_is_walked_at_once_is_not_kept(self):
+        walked = [(name, node.iter) for name, node in nodes(ast.For, ast.comprehension)]
+        walked += [(name, node.args[0]) for name, node in nodes(ast.Call)
+                   if isinstance(node.func, ast.Name) and node.args]
+        places = [(name, node.lineno, node.col_offset) for name, node in walked]
+        for name, node in nodes(ast.Call):
+            if isinstance(node.func, ast.Name) and node.func.id in ("zip", "enumerate", "reversed", "range"):
+                self.assertIn((name, node.lineno, node.col_offset), places, f"{name}:{node.lineno}")
 
     def test_functions_are_plain(self):
         for name, node in nodes(ast.FunctionDef, ast.ClassDef):
